@@ -1,0 +1,1 @@
+"""Versioned store of features."""
