@@ -17,6 +17,21 @@ NUMBER_COUNTS = (
     1,  # delete_branch
     1,  # reset_branch
     2,  # set_tag
+    1,  # delete_tag
+    2,  # diff
+    0,  # working_diff
+    1,  # merge
+    2,  # merge_with
+    1,  # revert
+    1,  # cherry_pick
+    1,  # log
+    2,  # common_ancestor
+    2,  # origin_of_attribute
+    1,  # origin_of_vertices
+    1,  # hash
+    0,  # collect_garbage
+    3,  # match_features
+    0,  # get_state
 )
 
 PUT_FEATURE = 1

@@ -1,13 +1,14 @@
-"""The calls that move between the working version and the commits: commit, discard, reset_branch."""
+"""The calls that move between the working version and the commits, and that remove commits."""
 
-from plotversions.limits import GREATEST_COMMIT_COUNT, IN_USE, MISSING, NO_CHANGE, TOO_MANY
+from plotversions.history import reachable
+from plotversions.limits import IN_USE, MISSING, NO_CHANGE, TOO_MANY
 from plotversions.versions import changed_ids
 
 
 def commit(store, given):
     if not store.is_changed():
         return [NO_CHANGE]
-    if len(store.commits) >= GREATEST_COMMIT_COUNT:
+    if store.is_full():
         return [TOO_MANY]
     return [store.make_commit([store.head()], store.working)]
 
@@ -27,3 +28,11 @@ def reset_branch(store, given):
     previous = store.head()
     store.move_head(number)
     return [previous]
+
+
+def collect_garbage(store, given):
+    kept = reachable(store.commits, store.named_commits())
+    removed = [number for number in store.commits if number not in kept]
+    for number in removed:
+        store.commits.pop(number)
+    return [len(removed)]

@@ -5,6 +5,7 @@ a commit keeps what it had, whatever becomes of the working version.
 """
 
 from plotversions.limits import GREATEST_ATTRIBUTE, GREATEST_COORDINATE, GREATEST_VERTEX_COUNT
+from plotversions.writing import counted
 
 
 def is_attribute(value):
@@ -54,9 +55,4 @@ def without_vertex(feature, index):
 
 def written_feature(feature):
     attributes, vertices = feature
-    written = [len(attributes)]
-    written.extend(attributes)
-    written.append(len(vertices))
-    for vertex in vertices:
-        written.extend(vertex)
-    return written
+    return [len(attributes)] + list(attributes) + counted(vertices)

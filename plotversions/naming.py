@@ -43,3 +43,10 @@ def set_tag(store, given):
         return [TOO_MANY]
     store.tags[tag] = number
     return [1 if is_replaced else 0]
+
+
+def delete_tag(store, given):
+    tag = given[0]
+    if tag not in store.tags:
+        return [MISSING]
+    return [store.tags.pop(tag)]

@@ -1,13 +1,16 @@
 """Answers a list of calls on one store, which doesn't exist at the list's beginning."""
 
 from plotversions.calls import read_call
-from plotversions.committing import commit, discard, reset_branch
+from plotversions.committing import collect_garbage, commit, discard, reset_branch
+from plotversions.comparing import diff, match_features, working_diff
 from plotversions.editing import insert_vertex, move_vertex, put_feature
 from plotversions.editing import remove_feature, remove_vertex, set_attribute
+from plotversions.joining import cherry_pick, merge, merge_with, revert
 from plotversions.limits import GREATEST_ATTRIBUTE_COUNT, NO_INSTANCE, OUT_OF_RANGE
-from plotversions.naming import create_branch, delete_branch, set_tag, switch_branch
-from plotversions.reading import get_feature, list_features
+from plotversions.naming import create_branch, delete_branch, delete_tag, set_tag, switch_branch
+from plotversions.reading import get_feature, get_state, list_features
 from plotversions.state import Store
+from plotversions.tracing import common_ancestor, hash_of_commit, log, origin_of_attribute, origin_of_vertices
 
 CREATE = 0
 
@@ -65,4 +68,19 @@ def operations_by_number():
         13: delete_branch,
         14: reset_branch,
         15: set_tag,
+        16: delete_tag,
+        17: diff,
+        18: working_diff,
+        19: merge,
+        20: merge_with,
+        21: revert,
+        22: cherry_pick,
+        23: log,
+        24: common_ancestor,
+        25: origin_of_attribute,
+        26: origin_of_vertices,
+        27: hash_of_commit,
+        28: collect_garbage,
+        29: match_features,
+        30: get_state,
     }
