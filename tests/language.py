@@ -47,6 +47,7 @@ KEYWORDS = {
     "sorted": ("key", "reverse"), "min": ("key", "default"), "max": ("key", "default"), "sum": ("start",),
     "enumerate": ("start",), "zip": ("strict",),
 }
+KEYS = "len int str abs sum min max tuple".split()
 WALKED_AT_ONCE = ("zip", "enumerate", "reversed", "range")
 WALKERS = "list tuple dict sorted sum any all enumerate zip min max".split()
 STATEMENTS = (
@@ -189,7 +190,7 @@ def imports(package):
             yield path, node.lineno, "import not at the top"
         names = [alias.name for alias in node.names]
         if isinstance(node, ast.Import):
-            if not is_main(path) or names != ["sys"]:
+            if not is_main(path) or names != ["sys"] or node.names[0].asname:
                 yield path, node.lineno, "import of a whole module"
         elif node.level or "*" in names or not is_own_or_annotations(node.module, names):
             yield path, node.lineno, "import from outside the package, relative or of all"
@@ -389,20 +390,33 @@ def names_once(package):
                 for name in locals_of(node):
                     if name in taken or name in dir(builtins):
                         yield path, node.lineno, f"{name} is a local, and a class, an import or Python's own"
-        yield from containers_of_the_top(path, tree)
+        yield from containers_of_the_top(package, path, tree)
 
 
-def containers_of_the_top(path, tree):
-    kept = {}
-    for node in tree.body:
-        if isinstance(node, ast.Assign) and isinstance(node.value, (ast.List, ast.Dict, ast.Tuple)):
-            kept[names_of_target(node)[0]] = node.value
-            inner = [part for part in ast.walk(node.value) if part is not node.value]
-            if any(isinstance(part, (ast.List, ast.Dict, ast.Set)) for part in inner):
-                yield path, node.lineno, "a list or dict within a list, dict or tuple of the top"
+def containers_of_the_top(package, path, tree):
+    for value in containers(tree).values():
+        inner = [part for part in ast.walk(value) if part is not value]
+        if any(isinstance(part, (ast.List, ast.Dict, ast.Set)) for part in inner):
+            yield path, value.lineno, "a list or dict within a list, dict or tuple of the top"
+    kept = list(containers(tree)) + imported_containers(package, tree)
     for node in ast.walk(tree):
         if is_name(node, *kept) and isinstance(node.ctx, ast.Load) and not is_only_read(node):
             yield path, node.lineno, f"{node.id} of the top is handed on or changed"
+
+
+def containers(tree):
+    rows = [node for node in tree.body if isinstance(node, ast.Assign)]
+    kinds = (ast.List, ast.Dict, ast.Tuple)
+    return {names_of_target(row)[0]: row.value for row in rows if isinstance(row.value, kinds)}
+
+
+def imported_containers(package, tree):
+    found = []
+    for row in [node for node in tree.body if isinstance(node, ast.ImportFrom)]:
+        source = package.trees.get(file_of_module(row.module or ""))
+        kept = containers(source) if source is not None else {}
+        found += [alias.asname or alias.name for alias in row.names if alias.name in kept]
+    return found
 
 
 def is_only_read(node):
@@ -524,6 +538,18 @@ def errors(package):
     for path, node in package.nodes(ast.Raise):
         if not isinstance(node.exc, ast.Call):
             yield path, node.lineno, "raise without making its error"
+        if node.cause is not None and not is_none(node.cause) and not is_name(node.cause, *names_of_handlers(node)):
+            yield path, node.lineno, "raise from something else than the handler's own error"
+
+
+def is_none(node):
+    return isinstance(node, ast.Constant) and node.value is None
+
+
+def names_of_handlers(node):
+    while node is not None and not isinstance(node, ast.ExceptHandler):
+        node = node.parent
+    return [node.name] if node is not None and node.name else []
 
 
 def names_caught(handler):
@@ -565,7 +591,8 @@ def annotations(package):
 def calls_of_python(package):
     for path, node in package.nodes(ast.Name):
         called = isinstance(node.parent, ast.Call) and node.parent.func is node
-        if node.id in FUNCTIONS and not called and not is_key(node) and not is_kind_of_isinstance(node):
+        key = is_key(node) and node.id in KEYS
+        if node.id in FUNCTIONS and not called and not key and not is_kind_of_isinstance(node):
             yield path, node.lineno, f"{node.id} is not called"
     for path, node in package.nodes(ast.Call):
         if is_name(node.func, "isinstance") and not is_plain_isinstance(node, package.classes()):
@@ -576,6 +603,12 @@ def calls_of_python(package):
         for keyword in node.keywords:
             if not own and not own_method and keyword.arg not in allowed:
                 yield path, node.lineno, f"the keyword {keyword.arg}"
+            if not own and keyword.arg in ("reverse", "strict") and not is_written_bool(keyword.value):
+                yield path, node.lineno, f"{keyword.arg} without a written True or False"
+
+
+def is_written_bool(node):
+    return isinstance(node, ast.Constant) and isinstance(node.value, bool)
 
 
 def is_key(node):
@@ -598,31 +631,35 @@ def walks(package):
         if walked and not is_walked_on_the_spot(node):
             yield path, node.lineno, "kept instead of walked"
     for path, node in package.nodes(ast.For):
-        walked = name_walked(node.iter)
+        walked = names_walked(node.iter)
         for part in [inner for row in node.body for inner in ast.walk(row)]:
-            if walked is not None and is_change_of(part, walked):
-                yield path, part.lineno, f"{walked} is changed while it is walked"
+            if is_change_of(part, walked):
+                yield path, part.lineno, "what a loop walks is changed in it"
 
 
 def is_walked_on_the_spot(node):
     around = node.parent
     if isinstance(around, (ast.For, ast.comprehension)):
         return around.iter is node
-    return is_call_of(around, *WALKERS) or is_method_call(around, "join")
+    if is_call_of(around, "min", "max"):
+        return len(around.args) == 1 and around.args[0] is node
+    if is_call_of(around, *WALKERS):
+        return len(around.args) > 0 and around.args[0] is node
+    return is_method_call(around, "join") and isinstance(around.func.value, ast.Constant)
 
 
-def name_walked(node):
-    if is_call_of(node, "enumerate", "zip", "reversed") and node.args:
-        return name_walked(node.args[0])
+def names_walked(node):
+    if is_call_of(node, "enumerate", "zip", "reversed"):
+        return [name for part in node.args for name in names_walked(part)]
     if is_method_call(node, "items", "keys", "values"):
-        return name_walked(node.func.value)
-    return ast.unparse(node) if isinstance(node, (ast.Name, ast.Attribute)) else None
+        return names_walked(node.func.value)
+    return [ast.unparse(node)] if isinstance(node, (ast.Name, ast.Attribute)) else []
 
 
 def is_change_of(node, walked):
     if isinstance(node, ast.Subscript) and isinstance(node.ctx, ast.Store):
-        return ast.unparse(node.value) == walked
-    return is_method_call(node, *CHANGING) and ast.unparse(node.func.value) == walked
+        return ast.unparse(node.value) in walked
+    return is_method_call(node, *CHANGING) and ast.unparse(node.func.value) in walked
 
 
 def places_of_sets(package):

@@ -12,6 +12,7 @@ TWO_COMMITS = [
     ("put_feature", 5, [5, 0], [1, 1]), ("remove_feature", 1), ("set_attribute", 3, 1, 9), ("move_vertex", 4, 0, 0, 1),
     ("commit",),
 ]
+SCATTERED = (300, 17, 9, 65535, 2, 256, 33, 8, 64)
 NO_VERSION = (3, 4, 40, 4294967294)
 
 
@@ -68,6 +69,12 @@ class Diff(StoreTest):
         removed = [value for number in range(16) for value in (number, 2, 0)]
         added = [value for number in range(16, 32) for value in (number, 1, 0)]
         self.assertEqual(ask_last(calls), [32] + removed + added)
+
+    def test_ids_ascend_whatever_order_they_came_in(self):
+        puts = [("put_feature", number, [], [0, 0]) for number in SCATTERED]
+        listed = [value for number in sorted(SCATTERED) for value in (number, 1, 0)]
+        calls = [("create", 0), *puts, ("diff", 0, WORKING), ("working_diff",)]
+        self.assertEqual(ask(calls)[-2:], [[len(SCATTERED)] + listed] * 2)
 
     def test_no_such_version(self):
         for number in NO_VERSION:

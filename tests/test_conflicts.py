@@ -186,6 +186,12 @@ class SeveralConflicts(ThreeWay):
         by_ours.pop(10)
         self.check_conflicts(base, ours, theirs, conflicts, by_ours, {**theirs, 11: same})
 
+    def test_ids_ascend_whatever_order_they_came_in(self):
+        scattered = (300, 17, 9, 65535, 2, 256, 33, 8, 64)
+        base, ours, theirs = [{number: ([value, 0], [0, 0]) for number in scattered} for value in (0, 1, 2)]
+        listed = [value for number in sorted(scattered) for value in (number, 3, 0)]
+        self.assertEqual(ask_last(three_versions(2, base, ours, theirs) + [("merge", 9)]), [-35, 9] + listed)
+
     def test_of_16_features_with_8_attributes_and_12_vertices(self):
         base, ours, theirs = [
             {number: ([value] * 8, [value] * 24) for number in range(16)} for value in (0, 1, 2)
